@@ -1,0 +1,1 @@
+"""Powers round n: units, their orders, generators and logarithms."""

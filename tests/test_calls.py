@@ -1,12 +1,9 @@
-"""The seven calls, each at ordinary inputs, at the edges and at wrong inputs."""
+"""round, units, pow, order, exponent, generators and log, at ordinary inputs, at the edges and at wrong inputs."""
 
 import unittest
 
-from tests.slow import (BIGGEST, ask, ask_round, has_generator, slow_exponent, slow_generators, slow_log,
+from tests.slow import (BIGGEST, KINDS, ask, ask_round, has_generator, slow_exponent, slow_generators, slow_log,
                         slow_order, slow_power, slow_units)
-
-# 1, 2, 4; primes; powers of odd primes; twice such ones; powers of 2 from 8 on; others; 300.
-KINDS = (1, 2, 4, 3, 7, 293, 9, 25, 27, 243, 289, 6, 10, 18, 50, 250, 8, 16, 256, 12, 15, 24, 105, 240, 299, 300)
 
 
 class RoundTest(unittest.TestCase):
@@ -67,7 +64,8 @@ class UnitsTest(unittest.TestCase):
 
 class PowTest(unittest.TestCase):
     def test_known(self):
-        for n, a, k, answer in ((10, 3, 4, 1), (10, 2, 5, 2), (7, 3, 3, 6), (300, 7, 2, 49), (8, 2, 3, 0), (9, 5, 1, 5)):
+        for n, a, k, answer in ((10, 3, 4, 1), (10, 2, 5, 2), (7, 3, 3, 6), (300, 7, 2, 49), (8, 2, 3, 0),
+                                (9, 5, 1, 5)):
             self.assertEqual(ask_round(n, ("pow", a, k)), [[answer]], (n, a, k))
 
     def test_the_power_0_is_1_round_n(self):

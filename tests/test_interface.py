@@ -25,6 +25,23 @@ class ListsTest(unittest.TestCase):
             ([0, 301], [1, -1]),
             ([3, 2], [1, -6]),
             ([0, 8, 6, 3, 5], [1, 4, 1, -3]),
+            ([0, 10, 7, 2, 4], [1, 4, 3, 2, 2, 8]),
+            ([0, 10, 7, 2, 3], [1, 4, 1, 0]),
+            ([0, 10, 7, 0, 4], [1, 4, 1, -1]),
+            ([0, 12, 8], [1, 4, 5, 2, 2, 2, 3, 1]),
+            ([0, 1, 8], [1, 1, 1, 0]),
+            ([9, 0], [2, 0, 1]),
+            ([9, 2, 2, 3], [2, 2, 3]),
+            ([9, 6, 2, 3, 3, 5, 2, 7], [2, 23, 105]),
+            ([9, 1, 2], [1, -1]),
+            ([9, 12, 1, 2, 1, 2, 1, 2, 1, 2, 1, 2, 1, 2], [1, -1]),
+            ([9, 4, 0, 2, 1, 2], [1, -3]),
+            ([0, 24, 10], [1, 8, 4, 3, 2, 2, 2]),
+            ([0, 1, 10], [1, 1, 1, 0]),
+            ([0, 10, 11], [1, 4, 7, 3, 1, 1, 2, 1, 4, 2]),
+            ([0, 10, 12], [1, 4, 1, 9]),
+            ([0, 10, 13, 3], [1, 4, 1, 7]),
+            ([0, 10, 13, 5], [1, 4, 1, -6]),
         )
         for calls, answer in told:
             self.assertEqual(units.answers(calls), answer, calls)
@@ -32,6 +49,9 @@ class ListsTest(unittest.TestCase):
     def test_numbers_that_look_like_calls(self):
         self.assertEqual(units.answers([0, 6, 2, 6, 5, 3, 5, 6, 5, 1, 0, 4, 4]),
                          [1, 2, 1, 0, 1, 2, 1, 0, 1, 2, 1, 2])
+        calls = [0, 13, 9, 4, 9, 13, 13, 9, 7, 9, 12, 13, 12, 9, 3, 9, 0, 9, 9, 0, 12, 9, 2, 10, 9]
+        self.assertEqual(units.answers(calls),
+                         [1, 12, 2, 22, 117, 4, 3, 4, 10, 12, 1, 12, 1, -1, 2, 0, 1, 1, 12, 2, 1, 9])
 
     def test_all_calls_with_refusals_among_them(self):
         self.assertEqual(
@@ -47,13 +67,15 @@ class ListsTest(unittest.TestCase):
              [pow(BIGGEST, BIGGEST, 300)], [1], [-1], [1, 1]])
 
     def test_a_refusal_changes_nothing(self):
-        seen = [("units",), ("exponent",), ("generators",), ("pow", 7, 3), ("order", 7), ("log", 7, 7)]
-        for refused in (("round", 0), ("round", 301), ("order", 5), ("log", 2, 1), ("log", 9, 3)):
+        seen = [("units",), ("exponent",), ("generators",), ("pow", 7, 3), ("order", 7), ("log", 7, 7), ("roots", 2, 4),
+                ("factors",), ("together", 7, 9), ("parts",), ("orders",), ("product",), ("inverse", 7)]
+        for refused in (("round", 0), ("round", 301), ("order", 5), ("log", 2, 1), ("log", 9, 3), ("roots", 0, 3),
+                        ("together", 5), ("together", 1, 31), ("together", 0, 2, 1, 2), ("inverse", 2)):
             plain = ask(("round", 10), *seen)
             self.assertEqual(ask(("round", 10), refused, *seen)[2:], plain[1:], refused)
 
     def test_thirty_long_calls(self):
-        for name in ("units", "exponent", "generators"):
+        for name in ("units", "exponent", "generators", "factors", "parts", "orders", "product"):
             rows = ask(("round", 293), *[(name,)] * 29)
             self.assertEqual(len(rows), 30)
             self.assertEqual(rows[1:], [rows[1]] * 29)
@@ -61,7 +83,10 @@ class ListsTest(unittest.TestCase):
 
 class KindsTest(unittest.TestCase):
     CALLS = (("round", 10), ("units",), ("pow", 3, BIGGEST), ("order", 13), ("order", 5), ("exponent",),
-             ("generators",), ("log", 3, 17), ("log", 9, 3), ("round", 0), ("round", 1), ("units",), ("pow", 0, 0))
+             ("generators",), ("log", 3, 17), ("log", 9, 3), ("roots", BIGGEST, 7), ("roots", 0, 7), ("factors",),
+             ("together", 2, 3, BIGGEST, 30), ("together", 0, 2, 1, 2), ("together", 1, 0), ("parts",), ("orders",),
+             ("product",), ("inverse", BIGGEST), ("inverse", 13), ("round", 0), ("round", 1), ("units",),
+             ("pow", 0, 0), ("inverse", 0))
 
     def test_takes_one_argument_called_calls(self):
         self.assertEqual(list(inspect.signature(units.answers).parameters), ["calls"])

@@ -78,6 +78,18 @@ class LanguageTest(unittest.TestCase):
                 if isinstance(node, ast.Attribute):
                     self.assertIn(node.attr, METHODS, (name, node.lineno))
 
+    def test_no_function_comes_back_to_itself(self):
+        for name, tree in self.trees.items():
+            defs = {node.name: node for node in tree.body if isinstance(node, ast.FunctionDef)}
+            within = {}
+            for own, node in defs.items():
+                within[own] = {inner.id for inner in ast.walk(node) if isinstance(inner, ast.Name)} & set(defs)
+            # A function that calls only those already left out is left out in turn; a ring never is.
+            while any(not called for called in within.values()):
+                ended = {own for own, called in within.items() if not called}
+                within = {own: called - ended for own, called in within.items() if own not in ended}
+            self.assertEqual(within, {}, name)
+
     def test_each_name_of_a_files_top_is_bound_once(self):
         for name, tree in self.trees.items():
             names = [node.name for node in tree.body if isinstance(node, ast.FunctionDef)]
